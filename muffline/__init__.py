@@ -1,0 +1,1 @@
+"""Muffline: sealed letters on an open road, judged for all runs."""
