@@ -1,44 +1,19 @@
 """Terms: their forms, parts and order.
 
 Terms may be nested too deep for recursion, so the functions keep stacks of their own.
+Where the document asks nothing else, they take role terms and recipes, too.
 """
 
-from muffline.forms import GREATEST_NUMBERS, PLACES, is_name, is_number
+from muffline.forms import PLACES, forms_within
+
+LARGEST_SIZE = 2000
+
+MOST_LEVELS = 200
 
 
 def is_term(value):
     """Tell whether a value of any form is a term."""
-    pending = [value]
-    while pending:
-        node = pending.pop()
-        places = _places_of(node)
-        if places is None:
-            return False
-        for at, place in enumerate(places, start=1):
-            if place == "term":
-                pending.append(node[at])
-            elif not _fits(node[at], place, node[at - 1]):
-                return False
-    return True
-
-
-def _places_of(value):
-    """Return the places of the one form that the value can have, or None."""
-    if not isinstance(value, tuple) or len(value) == 0 or not isinstance(value[0], str):
-        return None
-    places = PLACES.get(("term", value[0]))
-    if places is None or len(value) != len(places) + 1:
-        return None
-    return places
-
-
-def _fits(item, place, before):
-    """Tell whether an item that is no term fits its place behind the item before it."""
-    if place in GREATEST_NUMBERS:
-        return is_number(item, GREATEST_NUMBERS[place])
-    if place == "later":
-        return is_name(item) and before <= item
-    return is_name(item)
+    return forms_within(value, "term", ()) is not None
 
 
 def is_atom(term):
@@ -67,6 +42,47 @@ def occurrences(term):
             if isinstance(item, tuple):
                 pending.append(item)
     return found
+
+
+def levels_of(term):
+    """Return how many levels of parentheses the written form of a term has."""
+    many = 0
+    level = [term]
+    while level:
+        many += 1
+        level = _inner_level(level)
+    return many
+
+
+def is_too_large(term):
+    """Tell whether a term has a size of more than 2000 or more than 200 levels."""
+    # A term may share its parts and be far larger than what was built, so this counts no further than it must.
+    many = 0
+    levels = 0
+    level = [term]
+    while level and many <= LARGEST_SIZE and levels <= MOST_LEVELS:
+        many += len(level)
+        levels += 1
+        level = _inner_level(level)
+    return many > LARGEST_SIZE or levels > MOST_LEVELS
+
+
+def _inner_level(level):
+    return [item for node in level for item in node if isinstance(item, tuple)]
+
+
+def rebuilt(term, make):
+    """Return the term with each term in it replaced by what make returns for it, from the inside out."""
+    inner = []
+    for node in reversed(occurrences(term)):
+        items = []
+        for item in node:
+            if isinstance(item, tuple):
+                items.append(inner.pop())
+            else:
+                items.append(item)
+        inner.append(make(tuple(items)))
+    return inner[0]
 
 
 def parts(term):
@@ -134,3 +150,51 @@ def is_less(first, second):
 def in_order(row):
     """Return the terms of a row in ascending order, each as often as it occurs."""
     return tuple(sorted(row, key=_rank))
+
+
+class Stock:
+    """Numbers for the distinct parts of some terms; what stands inside a term has lesser numbers.
+
+    For each number there are the term, its written form, its size, and the numbers of the
+    terms inside from left to right.
+    """
+
+    def __init__(self):
+        self.terms = []
+        self.texts = []
+        self.sizes = []
+        self.inner = []
+        self.numbers = {}
+
+    def number_of(self, term):
+        """Return the number of a term; the term and its parts get numbers if they have none."""
+        numbers = []
+        for node in reversed(occurrences(term)):
+            numbers.append(self._number_one(node, numbers))
+        return numbers[0]
+
+    def _number_one(self, node, numbers):
+        """Return the number of a term, taking the numbers of the terms inside from the end of a list."""
+        inner = []
+        words = []
+        for item in node:
+            if isinstance(item, tuple):
+                inner.append(numbers.pop())
+                words.append(self.texts[inner[-1]])
+            else:
+                words.append(str(item))
+        text = "(" + " ".join(words) + ")"
+        if text not in self.numbers:
+            self.numbers[text] = len(self.terms)
+            self.terms.append(node)
+            self.texts.append(text)
+            self.sizes.append(1 + sum([self.sizes[at] for at in inner]))
+            self.inner.append(tuple(inner))
+        return self.numbers[text]
+
+    def ascending(self, numbers):
+        """Return the terms with these numbers in ascending order."""
+        return tuple([self.terms[at] for at in sorted(numbers, key=self._place)])
+
+    def _place(self, at):
+        return (self.sizes[at], self.texts[at])
