@@ -20,6 +20,9 @@ INTERFACE = {
     "patterns": "apply_bindings apply_to_row match_term unify unify_rows chain_bindings",
     "roles": "check_role is_role_term role_size role_depth place_term",
     "worlds": "World",
+    "runs": "replay schedule_of tidy is_tidy",
+    "claims": "check_claim broken crowd leak",
+    "cases": "start_case is_settled unfold next_demand",
 }
 METHODS_OF_VALUES = """append clear copy count endswith extend find get index insert isalnum isalpha isdigit islower isspace
 isupper items join keys ljust lower lstrip partition pop remove replace reverse rfind rjust rpartition rsplit rstrip
