@@ -124,19 +124,22 @@ def _unifiers(letters, term):
     goal = stock.number_of(term)
     found_parts = parts_of_row(letters)
     pieces = [stock.number_of(part) for part in found_parts]
-    keys = parts_of_row([part[2] for part in found_parts if part[0] == "lock"])
     pairs = [(goal, piece) for piece in pieces]
-    for key in keys:
-        pairs.extend([(stock.number_of(key), piece) for piece in pieces])
+    for part in parts_of_row([part[2] for part in found_parts if part[0] == "lock"]):
+        key = stock.number_of(part)
+        pairs.extend([(key, piece) for piece in pieces])
     found = {}
     for first, second in pairs:
-        # Terms of two kinds are never made equal, and a variable comes up by its own demand.
-        kind = stock.terms[first][0]
-        if first != second and kind != "var" and kind == stock.terms[second][0]:
+        if first != second and _may_unify(stock, first, second):
             unifier = unify_numbers(stock, [(first, second)])
             if unifier is not None:
                 found.setdefault(_written(unifier), unifier)
     return list(found.values())
+
+
+def _may_unify(stock, first, second):
+    """Tell whether two terms are composed and of one kind; other distinct terms that are no variables never unify."""
+    return len(stock.inner[first]) > 0 and stock.terms[first][0] == stock.terms[second][0]
 
 
 def _written(bindings):

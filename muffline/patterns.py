@@ -197,4 +197,4 @@ class Classes:
 def _with_inner(term, inner):
     """Return a term with other terms inside."""
     kind, *names = own_items(term)
-    return (kind, *inner, *names) if len(inner) > 0 else term
+    return (kind, *inner, *names)

@@ -159,6 +159,43 @@ def least_recipes(good, row, atoms, names, most):
     return found
 
 
+def least_by_trying(good, row, term):
+    """A dict of the least recipes for the parts of a row, of a term, and private halves, found by trying until none gets less."""
+    universe = all_parts([*row, term])
+    universe += [("own", part[2]) for part in universe if part[0] in ("box", "stamp")]
+    found = {}
+
+    def offer(recipe, values):
+        value = combine(recipe, values) if values else cook(good, row, recipe)
+        if value in universe and (value not in found or rank_of_recipe(recipe) < rank_of_recipe(found[value])):
+            found[value] = recipe
+            return True
+        return False
+
+    again = True
+    while again:
+        again = any([offer(("letter", at), []) for at in range(len(row))])
+        for target in universe:
+            again = offer(("free", target), []) or again
+            below = [found.get(item) for item in inner(target)]
+            half = found.get(("own", target[-1]))
+            if target[0] in PLACES and None not in below and (target[0] != "stamp" or half is not None):
+                names = [item for item in target[1:] if isinstance(item, str)]
+                recipe = (target[0], *below, *([half] if target[0] == "stamp" else []), *names)
+                again = offer(recipe, inner(target) + ([("own", target[2])] if target[0] == "stamp" else [])) or again
+        for target, recipe in list(found.items()):
+            key = found.get(target[2]) if target[0] == "lock" else found.get(("own", target[-1]))
+            if target[0] == "pair":
+                again = offer(("left", recipe), [target]) or offer(("right", recipe), [target]) or again
+            elif target[0] == "stamp":
+                again = offer(("unstamp", recipe, target[2]), [target]) or again
+            elif target[0] == "lock" and key is not None:
+                again = offer(("unlock", recipe, key), [target, target[2]]) or again
+            elif target[0] == "box" and key is not None:
+                again = offer(("unbox", recipe, key, target[2]), [target, ("own", target[2])]) or again
+    return found
+
+
 def recipe_size(recipe):
     if recipe[0] in ("letter", "free"):
         return 1

@@ -310,6 +310,19 @@ class LeastRecipes(unittest.TestCase):
             if term in found:
                 self.assertEqual(recipe_for(GOOD, row, term), found[term])
 
+    def test_same_as_trying_until_none_gets_less(self):
+        chance = random.Random(13)
+        large = 0
+        for _ in range(400):
+            row = tuple(term_by_chance(chance, 4) for _ in range(chance.randrange(1, 6)))
+            term = term_by_chance(chance, 3)
+            expected = plain.least_by_trying(GOOD, row, term)
+            for goal in (term, *parts_of_row(row)):
+                recipe = recipe_for(GOOD, row, goal)
+                self.assertEqual(recipe, expected.get(goal), (row, goal))
+                large += recipe is not None and recipe_size(recipe) > 6
+        self.assertGreater(large, 100)
+
 
 def within(term):
     """Whether a term has only what a listing with the hosts ann and mal and the word hi may use freely."""

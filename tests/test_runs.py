@@ -224,6 +224,9 @@ class Bounds(RunTests):
         self.assertIs(is_too_large(digests(HI, 199)), False)
         self.assertIs(is_too_large(digests(HI, 200)), True)
         self.assertIs(is_too_large(samples.doubled(HI, 2000)), True)
+        # Here the deepest level has one term alone.
+        self.assertIs(is_too_large(("pair", of_size(HI, 1900), digests(HI, 98))), False)
+        self.assertIs(is_too_large(("pair", of_size(HI, 1900), digests(HI, 99))), True)
 
 
 class Schedules(unittest.TestCase):
