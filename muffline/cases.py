@@ -124,16 +124,14 @@ def _unifiers(letters, term):
     goal = stock.number_of(term)
     found_parts = parts_of_row(letters)
     pieces = [stock.number_of(part) for part in found_parts]
-    pairs = [(goal, piece) for piece in pieces]
-    for part in parts_of_row([part[2] for part in found_parts if part[0] == "lock"]):
-        key = stock.number_of(part)
-        pairs.extend([(key, piece) for piece in pieces])
+    lock_keys = parts_of_row([lock[2] for lock in found_parts if lock[0] == "lock"])
     found = {}
-    for first, second in pairs:
-        if first != second and _may_unify(stock, first, second):
-            unifier = unify_numbers(stock, [(first, second)])
-            if unifier is not None:
-                found.setdefault(_written(unifier), unifier)
+    for first in [goal, *[stock.number_of(part) for part in lock_keys]]:
+        for second in pieces:
+            if first != second and _may_unify(stock, first, second):
+                unifier = unify_numbers(stock, [(first, second)])
+                if unifier is not None:
+                    found.setdefault(_written(unifier), unifier)
     return list(found.values())
 
 
