@@ -9,6 +9,8 @@ Forms may be nested too deep for recursion, so the functions keep stacks of thei
 
 LONGEST_NAME = 8
 
+LETTERS = "abcdefghijklmnopqrstuvwxyz"
+
 GREATEST_NUMBERS = {"session": 9, "number": 999999}
 
 LANGUAGES = ("atom", "term", "role term", "recipe")

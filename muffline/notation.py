@@ -32,6 +32,18 @@ def read_recipe(text):
     return _read_whole(text, "recipe")
 
 
+def read_role_terms(text):
+    """Return the role terms whose written forms, with one space between them, are the whole text."""
+    found = []
+    at = 0
+    while at < len(text):
+        if found:
+            at = _pass_sign(text, at, " ")
+        term, at = _read_form(text, at, 1, "role term")
+        found.append(term)
+    return tuple(found)
+
+
 def _read_whole(text, language):
     value, end = _read_form(text, 0, 1, language)
     if end < len(text):

@@ -133,9 +133,14 @@ def place_term(term, capitals, hosts, session):
 
 
 def _placed(node, table, session):
+    if node[0] in ("mark", "var"):
+        return (node[0], session, node[1])
+    return with_hosts(node, table)
+
+
+def with_hosts(node, table):
+    """Return a term with the hosts that stand in it itself replaced; both has its two in ascending order."""
     kind = node[0]
-    if kind in ("mark", "var"):
-        return (kind, session, node[1])
     if kind in ("host", "own"):
         return (kind, table.get(node[1], node[1]))
     if kind == "both":

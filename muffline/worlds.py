@@ -81,6 +81,12 @@ def role_named(roles, name):
     return None
 
 
+def role_with_step(role, at, term):
+    """Return a role with the term of a step replaced; it stays a send or a take."""
+    name, parameters, steps = role
+    return (name, parameters, (*steps[:at], (steps[at][0], term), *steps[at + 1:]))
+
+
 def _total_steps(roles, sessions):
     return sum([len(role_named(roles, name)[2]) for name, _ in sessions])
 

@@ -10,7 +10,7 @@ from muffline.recipes import cook, recipe_size
 from muffline.runs import replay
 from tests import plain_worlds, samples
 from tests.test_runs import ATTACK, ATTACKED, CROWD, FREE, FULL, HI, HO, MAL, PAIR, VALUES_OF_ANY_FORM, letter, of_size, run_by_chance
-from tests.worlds import ANSWER, ASK, ECHO, GET, GIVE, IDLE, KEYS, SHOW, role, world
+from tests.worlds import ANSWER, ECHO, GET, GIVE, IDLE, KEYS, SHOW, role, world
 
 N, M, X, Y = ("mark", "n"), ("mark", "m"), ("var", "x"), ("var", "y")
 HOST_A, HOST_B = ("host", "A"), ("host", "B")

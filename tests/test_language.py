@@ -23,6 +23,14 @@ INTERFACE = {
     "runs": "replay schedule_of tidy is_tidy",
     "claims": "check_claim broken crowd leak",
     "cases": "start_case is_settled unfold next_demand",
+    "judge": "judge check instance_run least_break",
+    "likeness": "tells tell_apart runs_alike",
+    "mends": "edited mend",
+    "joining": "join_worlds apart project",
+    "ward": "Ward",
+    "tunnel": "Tunnel",
+    "texts": "write_world read_world",
+    "desk": "Desk",
 }
 METHODS_OF_VALUES = """append clear copy count endswith extend find get index insert isalnum isalpha isdigit islower isspace
 isupper items join keys ljust lower lstrip partition pop remove replace reverse rfind rjust rpartition rsplit rstrip

@@ -2,7 +2,6 @@
 
 import unittest
 
-from muffline import notation
 from muffline.errors import BadText, MuffError
 from muffline.notation import read_recipe, read_role_term, read_term, write_term
 from muffline.terms import is_term, key_of

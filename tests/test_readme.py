@@ -19,6 +19,17 @@ class Readme(unittest.TestCase):
         x, y, mark = names["x"], names["y"], names["mark"]
         self.assertEqual(names["unify"](("pair", x, ("digest", y)), ("pair", y, ("digest", mark))), ((x, mark), (y, mark)))
 
+        kind, paper = names["judge"](names["spied"], names["claim"])
+        self.assertEqual((kind, paper), ("run", ((0, None),)))
+        self.assertEqual(names["kind"], "paper")
+        self.assertEqual(names["test"], ("equal", ("letter", 1), ("digest", ("letter", 0))))
+        self.assertEqual((names["numbers"], names["trials"]), ((0,), (((), ((0, None),)),)))
+        self.assertEqual(names["project"](names["joined"], 1, ((1, None), (0, None))), ((0, None),))
+        self.assertEqual(names["ward"].verdict(0), ("run", ((0, None),), "kept"))
+        self.assertEqual(["# " + line for line in names["text"].split("\n")], re.findall(r"^# .*", TEXT[TEXT.index("text = write"):], re.MULTILINE)[:6])
+        self.assertEqual(names["desk"].answer("judge 0"), "keeps")
+        self.assertEqual((names["tunnel"].received, names["tunnel"].deliver(0)), ((0,), "again"))
+
     def test_all_modules_are_listed(self):
         package = pathlib.Path(__file__).resolve().parent.parent / "muffline"
         for path in package.glob("*.py"):
