@@ -93,8 +93,9 @@ def check(world, claim, paper):
         if not _has_schedule(world, case[1]):
             return False
         following = unfold(world, claim, case)
-        if following is None or not all([at < number < len(paper) for number in numbers]):
+        if not all([at < number < len(paper) for number in numbers]):
             return False
+        # A broken case has None here, which no cases are equal to.
         if following != tuple([paper[number][0] for number in numbers]):
             return False
     return True

@@ -280,17 +280,23 @@ class Project(unittest.TestCase):
             self.assertEqual(recipe, ("lock", ("free", ("road", 0)), ("free", ("both", *sorted(key[1:])))))
 
     def test_new_names_occur_nowhere(self):
-        tell = role("d", "send (box (host h) A)", parameters=("A",))
+        tell = role("d", "send (box (host h) A)", "take (stamp (mark f) B)", parameters=("A", "B"))
         unused = role("i", "send (box (word j) k)", parameters=("A",))
         echo = role("c", "take (var g)", "take (var m)", "take (var o)", parameters=("A",))
-        where = World((echo, tell, unused), (("c", ("b",)), ("d", ("zed",))), ("a", "b", "zed"))
-        recipe = ("pair", ("free", ("both", "l", "n")), ("unstamp", ("stamp", ("free", ("word", "p")), ("free", ("own", "q")), "q"), "q"))
-        run = ((1, None), (0, ("left", ("pair", letter(0), recipe))), (0, ("box", ("free", ("host", "r")), "s")), (0, ("free", ("own", "t"))))
-        projected = self.check(where, 1, run)
-        # Good hosts are a and b, roles c, d and i, variables g, m and o, hosts h, k, l, n, q, r, s and t, words j and p.
-        self.assertEqual(projected[0], (0, ("box", ("free", ("host", "h")), "e")))
-        wide = World((role("c", "take (var e)", parameters=("A",)), tell, unused), (("c", ("b",)), ("d", ("zed",))), ("a", "b", "zed"))
-        self.assertEqual(self.check(wide, 1, ((1, None), (0, letter(0))))[0], (0, ("box", ("free", ("host", "h")), "f")))
+        where = World((echo, tell, unused), (("c", ("b",)), ("d", ("zed", "e"))), ("a", "b", "yes", "zed"))
+        # Good hosts are a and b, roles c, d and i, bad hosts e, h and k, a mark f, variables g, m and o, and a word j.
+        run = ((1, None), (0, letter(0)), (0, ("free", HI)))
+        self.assertEqual(self.check(where, 1, run)[0], (0, ("box", ("free", ("host", "h")), "l")))
+        # What stands anywhere in a recipe is used, too, also in one of the rest or in one that comes later.
+        for other in (("free", ("host", "l")), ("free", ("word", "l")), ("free", ("own", "l")), ("free", ("both", "ann", "l")), ("free", ("both", "l", "zed")),
+                      ("box", ("free", HI), "l"), ("stamp", ("free", HI), ("free", ("own", "l")), "l"), ("left", ("pair", ("free", HI), ("free", ("host", "l")))),
+                      ("unstamp", ("stamp", ("free", HI), ("free", ("own", "l")), "l"), "l")):
+            projected = self.check(where, 1, ((1, None), (0, letter(0)), (0, other)))
+            self.assertEqual(projected[0], (0, ("box", ("free", ("host", "h")), "n")))
+        stamped = ("stamp", ("free", HI), ("free", ("own", "l")), "l")
+        where = World((echo, ("d", ("A", "B"), (tell[2][0], ("take", ("var", "f")))), unused), where.sessions, where.good)
+        projected = self.check(where, 1, ((1, None), (1, stamped), (0, letter(0))))
+        self.assertEqual(projected[0], (0, ("box", ("free", ("host", "h")), "n")))
 
     def test_many_names(self):
         # All names of one letter are used, so the next ones have two.

@@ -475,6 +475,13 @@ class LeastBreak(unittest.TestCase):
         self.assertEqual(schedule_of(judge(where, claim)[1]), (0, 1, 1))
         self.assertEqual(schedule_of(least_break(where, claim)), (1, 1))
 
+    def test_the_number_of_moves_counts_and_not_that_of_letters(self):
+        many = role("many", "send (word hi)", "send (word hi)", "send (both A B)")
+        late = role("late", "take (var x)", "take (var y)", "take (var z)", "send (both A B)")
+        for sessions, least in ((("give ann bob", "many ann bob", "late ann bob"), (1, 1, 1)), (("give ann bob", "late ann bob", "many ann bob"), (2, 2, 2))):
+            run = least_break(world((GIVE, many, late), *sessions), ("hidden", 0, ("both", "A", "B")))
+            self.assertEqual(schedule_of(run), least)
+
     def test_of_several_the_first_in_the_order_of_judge(self):
         two = role("two", "send (pair (lock (mark n) (both A B)) (lock (mark m) (both A B)))")
         where = world((two, GET), "two ann bob", "get bob ann")
