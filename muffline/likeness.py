@@ -192,10 +192,12 @@ class Comparison:
 
     def _measured(self, recipe, on, opens, inner):
         size = 1 + sum([one.size for one in inner])
-        atoms = 1 if recipe[0] == "free" else 0
-        levels = 1 + max([one.levels for one in inner], default=atoms)
-        values = [self.stock.sizes[number] for number in on if number is not None]
-        return Made(recipe, on, opens, size, levels, max([*values, *[one.largest for one in inner]]))
+        levels = 1 + max([one.levels for one in inner], default=0)
+        if recipe[0] == "free":
+            levels += 1
+        found = [self.stock.sizes[number] for number in on if number is not None]
+        largest = max([*found, *[one.largest for one in inner]], default=0)
+        return Made(recipe, on, opens, size, levels, largest)
 
     def next_test(self):
         """Return the next test that tells the rows apart, as a word and recipes that are made; None at the end."""
@@ -225,12 +227,9 @@ class Comparison:
 
     def _stamp_with(self, side, made):
         """Return the stamp of a word with a private half, where the other row has something else."""
-        head = self.stock.heads[made.on[side]]
-        word = self.stock.composed(("word", "a"), ())
-        text = self._measured(("free", ("word", "a")), (word, word), False, [])
-        on = [None, None]
-        on[side] = self.stock.composed(("stamp", head[1]), [word])
-        return self._measured(("stamp", text.recipe, made.recipe, head[1]), tuple(on), False, [text, made])
+        _, name = self.stock.heads[made.on[side]]
+        text = self._measured(("free", ("word", "a")), (), False, [])
+        return self._measured(("stamp", text.recipe, made.recipe, name), (), False, [text, made])
 
     def _keep(self, made):
         """Note the values of a recipe, and propose what can now be opened and composed."""

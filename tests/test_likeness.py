@@ -266,6 +266,16 @@ def chain_of_locks(session, many):
     return (marks[0], *[lock(marks[at + 1], pair(marks[at], marks[at])) for at in range(many)]), marks[-1]
 
 
+def leaves(term, many):
+    """Pairs of a term, so many times, in few levels."""
+    return term if many == 1 else pair(leaves(term, many // 2), leaves(term, many - many // 2))
+
+
+def opaque(count):
+    """A term of a size that the road can neither open nor compose."""
+    return digest(of_size(M, count - 1)) if count % 2 == 0 else digest(digest(of_size(M, count - 2)))
+
+
 def full(term, levels):
     return samples.doubled(term, levels)
 
@@ -323,6 +333,44 @@ class Sizes(unittest.TestCase):
                 else:
                     with self.assertRaises(TooLarge):
                         tell_apart(GOOD, first, second)
+
+    def check_bound(self, first, second, fits):
+        for one, other in ((first, second), (second, first)):
+            if fits:
+                test = tell_apart(GOOD, one, other)
+                self.assertIs(tells(GOOD, one, other, test), True)
+                self.check_bounds(one, other, test)
+            else:
+                with self.assertRaises(TooLarge):
+                    tell_apart(GOOD, one, other)
+
+    def test_the_greatest_size(self):
+        # The mark has a recipe of the size 2, so the pairs have one of 3 * 666 - 1.
+        for many, fits in ((2, True), (3, True), (4, False), (5, False)):
+            recipe = samples.deep(leaves(("left", L[0]), 666), many, (lambda inner: ("digest", inner),))
+            self.assertEqual(recipe_size(recipe), 1997 + many)
+            self.check_bound((pair(N, HI), self.digests(leaves(N, 666), many)), (pair(N, HI), S), fits)
+
+    def test_the_largest_value(self):
+        # Each of 250 leaves has a value of the size 399 on the other row.
+        self.assertEqual(size(opaque(399)), 399)
+        for many, fits in ((1, True), (2, False)):
+            self.assertEqual(size(self.digests(leaves(opaque(399), 250), many)), 99999 + many)
+            self.check_bound((N, self.digests(leaves(N, 250), many)), (opaque(399), M), fits)
+
+    def test_the_most_levels(self):
+        for many, fits in ((197, True), (198, True), (199, False)):
+            self.check_bound((self.digests(HI, many),), (S,), fits)
+            self.check_bound((N, self.digests(N, many)), (N, S), True)
+        for many, fits in ((98, True), (99, True), (100, False)):
+            term = samples.deep(N, 100, (lambda inner: lock(inner, K),))
+            self.check_bound((term, K, self.digests(N, many)), (term, K, S), fits)
+
+    def test_the_levels_of_a_stamp(self):
+        # A half that comes out of so many boxes is a test only as the half of a stamp.
+        for many, fits in ((197, True), (198, True), (199, False), (205, False)):
+            first, second = [samples.deep(half, many, (lambda inner: lock(inner, K),)) for half in (ANN, N)]
+            self.check_bound((first, K), (second, K), fits)
 
     def test_levels(self):
         # A row within the bounds whose last mark needs a recipe of more and more levels.
