@@ -228,6 +228,7 @@ class Comparison:
     def _stamp_with(self, side, made):
         """Return the stamp of a word with a private half, where the other row has something else."""
         _, name = self.stock.heads[made.on[side]]
+        # Where these two work, their values are small, so they are not noted.
         text = self._measured(("free", ("word", "a")), (), False, [])
         return self._measured(("stamp", text.recipe, made.recipe, name), (), False, [text, made])
 
